@@ -1,0 +1,1 @@
+"""Rings between a machine and a card."""
