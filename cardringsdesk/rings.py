@@ -1,13 +1,24 @@
-"""The card: its buffers, its rings, and a step of its work."""
+"""The card: its buffers, its rings, a step of its work, and what comes from the wire."""
+
+from cardringsdesk.cause import Cause
 
 BUFFERS = 64
 BUFFER_BYTES = 256
 SENDING_RINGS = 4
+LENDING_RING = 4
 RINGS = 5
 FRAME_BYTES = 4096
 FRAMES_OUT = 16
 COUNT_MODULUS = 4294967296
 NO_RING = -1
+
+
+def one_more(count):
+    return (count + 1) % COUNT_MODULUS
+
+
+def in_pieces(data):
+    return [data[begin:begin + BUFFER_BYTES] for begin in range(0, len(data), BUFFER_BYTES)]
 
 
 class Descriptor:
@@ -37,13 +48,16 @@ class Ring:
         self.posted = []
         return shown
 
-    def finish_first(self):
+    def mark_first_done(self):
         self.done.append(self.seen.pop(0))
 
     def take_done(self):
         taken = self.done
         self.done = []
         return taken
+
+    def take_first_done(self):
+        return self.done.pop(0)
 
     def join_frame(self, data):
         room = FRAME_BYTES - len(self.frame)
@@ -57,15 +71,15 @@ class Ring:
 
 class Card:
     def __init__(self, k, many, late):
-        self.many = many
-        self.late = late
+        self.cause = Cause(many, late)
         self.buffers = [[0] * BUFFER_BYTES for buffer in range(BUFFERS)]
         self.with_machine = [True for buffer in range(BUFFERS)]
         self.rings = [Ring(1 << k) for ring in range(RINGS)]
         self.turn = 0
         self.frames_out = []
         self.frames_sent = 0
-        self.done_since = 0
+        self.frames_come = 0
+        self.frames_dropped = 0
 
     def write(self, buffer, data):
         self.buffers[buffer] = data + self.buffers[buffer][len(data):]
@@ -79,6 +93,11 @@ class Card:
         for descriptor in taken:
             self.with_machine[descriptor.buffer] = True
         return taken
+
+    def take_lent(self):
+        descriptor = self.rings[LENDING_RING].take_first_done()
+        self.with_machine[descriptor.buffer] = True
+        return descriptor
 
     def work(self, most):
         steps = 0
@@ -107,11 +126,33 @@ class Card:
     def send_first(self, ring, descriptor):
         served = self.rings[ring]
         served.join_frame(self.buffers[descriptor.buffer][:descriptor.length])
-        served.finish_first()
-        self.done_since += 1
+        self.finish_first(ring)
         # The turn follows the ring that was served, which need not be the one whose turn it was.
         self.turn = ring
         if descriptor.last == 1:
             self.frames_out.append(served.end_frame())
-            self.frames_sent = (self.frames_sent + 1) % COUNT_MODULUS
+            self.frames_sent = one_more(self.frames_sent)
             self.turn = (ring + 1) % SENDING_RINGS
+
+    def finish_first(self, ring):
+        self.rings[ring].mark_first_done()
+        self.cause.count_done()
+
+    def receive(self, data):
+        pieces = in_pieces(data)
+        # Asked ahead of the first piece, so that no buffer holds a part of what is dropped.
+        if len(self.rings[LENDING_RING].seen) < len(pieces):
+            self.frames_dropped = one_more(self.frames_dropped)
+            return False
+        for piece in pieces[:-1]:
+            self.fill_first(piece, 0)
+        self.fill_first(pieces[-1], 1)
+        self.frames_come = one_more(self.frames_come)
+        return True
+
+    def fill_first(self, piece, last):
+        descriptor = self.rings[LENDING_RING].seen[0]
+        self.write(descriptor.buffer, piece)
+        descriptor.length = len(piece)
+        descriptor.last = last
+        self.finish_first(LENDING_RING)

@@ -49,6 +49,54 @@ def out():
     return call(8)
 
 
+def lend(buffer):
+    return call(9, buffer)
+
+
+def wire(data):
+    return call(10, len(data), *data)
+
+
+def wire_no_bytes(n):
+    """A wire whose n is not in its range: no bytes are handed in behind it."""
+    return call(10, n)
+
+
+def take():
+    return call(11)
+
+
+def tick(n=1):
+    return call(12, n)
+
+
+def cause():
+    return call(13)
+
+
+def state(ring):
+    return call(14, ring)
+
+
+def counts():
+    return call(15)
+
+
+def sent(ring, buffer, n=1, last=1):
+    """One descriptor posted, shown and done."""
+    return [post(ring, buffer, n, last), door(ring), work(1)]
+
+
+def lent(*buffers):
+    """Buffers lent and shown."""
+    return [lend(buffer) for buffer in buffers] + [door(4)]
+
+
+def unasked(calls):
+    """Calls of which any answer will do, for assert_answers."""
+    return [(one, None) for one in calls]
+
+
 def joined(calls):
     line = [number for one in calls for number in one]
     if not 1 <= len(calls) <= 60 or len(line) > 30000:

@@ -79,6 +79,38 @@ class LanguageTest(unittest.TestCase):
         for name, node in self.nodes(ast.Constant):
             self.assertIsInstance(node.value, (int, str, type(None)), (name, node.lineno))
 
+        for name, node in self.nodes(ast.ListComp):
+            self.assertTrue(len(node.generators) == 1 and len(node.generators[0].ifs) <= 1, (name, node.lineno))
+        for name, node in self.nodes(ast.Compare):
+            if any(isinstance(sign, (ast.Is, ast.IsNot)) for sign in node.ops):
+                self.assertIsInstance(node.comparators[0], ast.Constant, (name, node.lineno))
+
+    def test_defs(self):
+        for name, node in self.nodes((ast.FunctionDef, ast.ClassDef)):
+            self.assertEqual(node.decorator_list, [], (name, node.name))
+        for name, node in self.nodes(ast.arguments):
+            self.assertFalse(node.vararg or node.kwarg or node.kwonlyargs or node.posonlyargs, name)
+        for name, node in self.nodes(ast.ClassDef):
+            self.assertTrue(all(isinstance(one, ast.FunctionDef) for one in node.body), (name, node.name))
+
+    def test_names_of_a_files_top(self):
+        for name, tree in self.trees.items():
+            top = [node for node in tree.body if isinstance(node, ast.Assign)]
+            bound = [node.targets[0].id for node in top]
+            self.assertEqual(len(bound), len(set(bound)), name)
+            for node in top:
+                within = [one for one in ast.walk(node.value) if isinstance(one, (ast.List, ast.Dict))]
+                self.assertTrue(within in ([], [node.value]), (name, node.lineno))
+
+    def test_no_two_files_draw_from_one_another(self):
+        draws = {name: set() for name in self.trees}
+        for name, node in self.nodes(ast.ImportFrom):
+            draws[name].add(node.module.split(".")[1] + ".py")
+        while draws:
+            free = [name for name in draws if not draws[name] & set(draws)]
+            self.assertNotEqual(free, [], draws)
+            draws = {name: draws[name] for name in draws if name not in free}
+
     def test_names(self):
         for name, tree in self.trees.items():
             for bound in set(names_bound(tree)) - {"__init__"}:

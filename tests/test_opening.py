@@ -1,7 +1,7 @@
 """Point 1, and what holds of every call: -7 and a line's beginning."""
 
-from lines import (LARGEST, SMALLEST, LineTest, ask, call, door, opened, out, outside, post, read, reap, work, write,
-                   write_no_bytes)
+from lines import (LARGEST, SMALLEST, LineTest, ask, cause, counts, door, lend, opened, out, outside, post, read, reap,
+                   state, take, tick, wire, wire_no_bytes, work, write, write_no_bytes)
 
 ZEROS = [0] * 257
 
@@ -77,15 +77,18 @@ class OpenTest(LineTest):
 
 class NoCardTest(LineTest):
     def test_all_calls_but_open(self):
-        calls = [write(0, [1]), read(0), post(0, 0), door(0), work(1), reap(0), out(), call(9, 0), call(10, 1, 5),
-                 call(11), call(12, 1), call(13), call(14, 0), call(15)]
+        calls = [write(0, [1]), read(0), post(0, 0), door(0), work(1), reap(0), out(), lend(0), wire([5]), take(),
+                 tick(1), cause(), state(0), counts()]
         for one in calls:
-            self.assert_answers((one, [-7]), (one, [-7]), (opened(), [0]), (read(0), ZEROS), (out(), [-6]))
+            self.assert_answers((one, [-7]), (one, [-7]), (opened(1, 1, 1), [0]), (counts(), [0, 0, 0, 0, 0, 0]),
+                                *[(state(ring), [0, 0, 0, 0, 0]) for ring in range(5)], (tick(), [0]),
+                                (cause(), [0, 0]), (read(0), ZEROS), (out(), [-6]), (take(), [-6]))
 
     def test_is_told_before_wrong_numbers(self):
-        calls = [write_no_bytes(-1, 257), read(64), post(4, 64, 0, 2), door(5), work(0), reap(4), call(9, 64),
-                 call(10, 0), call(12, 0), call(14, 5)]
+        calls = [write_no_bytes(-1, 257), read(64), post(4, 64, 0, 2), door(5), work(0), reap(4), lend(64),
+                 wire_no_bytes(0), wire_no_bytes(1025), tick(0), tick(1001), state(-1), state(5)]
         self.assert_answers(*[(one, [-7]) for one in calls])
 
     def test_stays_behind_a_refused_open(self):
-        self.assert_answers((opened(9), [-2]), (work(0), [-7]), (opened(0), [-2]), (out(), [-7]))
+        self.assert_answers((opened(9), [-2]), (work(0), [-7]), (opened(0), [-2]), (out(), [-7]),
+                            (take(), [-7]), (counts(), [-7]), (tick(0), [-7]))

@@ -2,7 +2,7 @@
 
 from cardringsdesk.rings import Card, Descriptor
 
-from lines import LineTest, ask, door, opened, out, outside, post, read, reap, work, write
+from lines import LineTest, ask, cause, counts, door, opened, out, outside, post, read, reap, work, write
 
 
 def marked(buffers):
@@ -174,16 +174,10 @@ class SixteenFramesTest(LineTest):
 
 class CountedTest(LineTest):
     def test_done_ones_and_frames_that_went_out_are_counted(self):
-        card = Card(3, 5, 7)
-        for place in range(5):
-            card.post(1, Descriptor(place, 1, place % 2))
-        card.rings[1].show_posted()
-        self.assertEqual((card.done_since, card.frames_sent, card.turn), (0, 0, 0))
-        self.assertEqual(card.work(3), 3)
-        self.assertEqual((card.done_since, card.frames_sent, card.turn), (3, 1, 1))
-        self.assertEqual(card.work(64), 2)
-        self.assertEqual((card.done_since, card.frames_sent, card.turn), (5, 2, 1))
-        self.assertEqual((card.many, card.late), (5, 7))
+        self.assert_answers(
+            (opened(), [0]), *[(post(1, place, 1, place % 2), [place + 1]) for place in range(5)], (door(1), [5]),
+            (counts(), [0, 0, 0, 0, 0, 0]), (cause(), [0, 0]), (work(3), [3]), (counts(), [0, 1, 0, 0, 1, 1]),
+            (cause(), [0, 3]), (work(64), [2]), (counts(), [0, 2, 0, 0, 2, 1]), (cause(), [0, 2]))
 
     def test_frames_are_counted_modulo_2_to_the_32(self):
         card = Card(1, 1, 1)
